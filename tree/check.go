@@ -34,45 +34,66 @@ type exprForm struct {
 	str, fn  bool
 }
 
-// statForms has the form of each kind of statement.
-var statForms = [...]statForm{
-	api.SLocal:  {names: bounds{1, many}, right: bounds{0, many}, attr: api.Close},
-	api.SFunc:   {names: bounds{1, 1}, right: bounds{1, 1}},
-	api.SAssign: {left: bounds{1, many}, right: bounds{1, many}},
-	api.SCall:   {right: bounds{1, 1}},
-	api.SDo:     {blocks: bounds{1, 1}},
-	api.SWhile:  {right: bounds{1, 1}, blocks: bounds{1, 1}},
-	api.SRepeat: {right: bounds{1, 1}, blocks: bounds{1, 1}},
-	api.SIf:     {right: bounds{1, many}, blocks: bounds{1, many}},
-	api.SNum:    {names: bounds{1, 1}, right: bounds{2, 3}, blocks: bounds{1, 1}},
-	api.SFor:    {names: bounds{1, many}, right: bounds{1, many}, blocks: bounds{1, 1}},
-	api.SReturn: {right: bounds{0, many}},
-	api.SBreak:  {},
-	api.SGoto:   {label: true},
-	api.SLabel:  {label: true},
+// statFormOf returns the form of a kind of statement, and whether there is such a kind.
+func statFormOf(kind int) (f statForm, known bool) {
+	free, some, one := bounds{0, many}, bounds{1, many}, bounds{1, 1}
+	switch kind {
+	case api.SLocal:
+		f = statForm{names: some, right: free, attr: api.Close}
+	case api.SFunc:
+		f = statForm{names: one, right: one}
+	case api.SAssign:
+		f = statForm{left: some, right: some}
+	case api.SCall:
+		f = statForm{right: one}
+	case api.SDo:
+		f = statForm{blocks: one}
+	case api.SWhile, api.SRepeat:
+		f = statForm{right: one, blocks: one}
+	case api.SIf:
+		f = statForm{right: some, blocks: some}
+	case api.SNum:
+		f = statForm{names: one, right: bounds{2, 3}, blocks: one}
+	case api.SFor:
+		f = statForm{names: some, right: some, blocks: one}
+	case api.SReturn:
+		f = statForm{right: free}
+	case api.SGoto, api.SLabel:
+		f = statForm{label: true}
+	case api.SBreak:
+	default:
+		return statForm{}, false
+	}
+	return f, true
 }
 
-// exprForms has the form of each kind of expression.
-var exprForms = [...]exprForm{
-	api.ENil:    {},
-	api.ETrue:   {},
-	api.EFalse:  {},
-	api.ENumber: {},
-	api.EString: {str: true},
-	api.EVararg: {},
-	api.EName:   {str: true},
-	api.EIndex:  {args: bounds{2, 2}},
-	api.ECall:   {args: bounds{1, many}},
-	api.EMethod: {args: bounds{1, many}, str: true},
-	api.EFunc:   {fn: true},
-	api.ETable:  {args: bounds{0, many}},
-	api.EItem:   {args: bounds{1, 1}},
-	api.EPair:   {args: bounds{2, 2}},
-	api.EUnary:  {op: bounds{api.OpNeg, api.OpBnot}, args: bounds{1, 1}},
-	api.EBinary: {op: bounds{api.OpAdd, api.OpGe}, args: bounds{2, 2}},
-	api.EAnd:    {args: bounds{2, 2}},
-	api.EOr:     {args: bounds{2, 2}},
-	api.EParen:  {args: bounds{1, 1}},
+// exprFormOf returns the form of a kind of expression, and whether there is such a kind.
+func exprFormOf(kind int) (f exprForm, known bool) {
+	free, some, one, two := bounds{0, many}, bounds{1, many}, bounds{1, 1}, bounds{2, 2}
+	switch kind {
+	case api.ENil, api.ETrue, api.EFalse, api.ENumber, api.EVararg:
+	case api.EString, api.EName:
+		f = exprForm{str: true}
+	case api.EIndex, api.EPair, api.EAnd, api.EOr:
+		f = exprForm{args: two}
+	case api.ECall:
+		f = exprForm{args: some}
+	case api.EMethod:
+		f = exprForm{args: some, str: true}
+	case api.EFunc:
+		f = exprForm{fn: true}
+	case api.ETable:
+		f = exprForm{args: free}
+	case api.EItem, api.EParen:
+		f = exprForm{args: one}
+	case api.EUnary:
+		f = exprForm{op: bounds{api.OpNeg, api.OpBnot}, args: one}
+	case api.EBinary:
+		f = exprForm{op: bounds{api.OpAdd, api.OpGe}, args: two}
+	default:
+		return exprForm{}, false
+	}
+	return f, true
 }
 
 // place is what is permitted where an expression is: to be an item of a table, and the Names of a function.
@@ -188,10 +209,10 @@ func (b bounds) has(n int) bool { return n >= b.least && n <= b.most }
 
 // statFormed reports whether a statement is well-formed apart from its names and its place.
 func statFormed(s *api.Stat) bool {
-	if s.Kind < api.SLocal || s.Kind > api.SLabel || s.Line < 0 {
+	f, known := statFormOf(s.Kind)
+	if !known || s.Line < 0 {
 		return false
 	}
-	f := statForms[s.Kind]
 	for _, x := range s.Names {
 		if x.Attr < api.Plain || x.Attr > f.attr {
 			return false
@@ -223,10 +244,10 @@ func partsFormed(s *api.Stat) bool {
 
 // exprFormed reports whether an expression is well-formed apart from its names and its place.
 func exprFormed(e *api.Expr) bool {
-	if e.Kind < api.ENil || e.Kind > api.EParen || e.Line < 0 {
+	f, known := exprFormOf(e.Kind)
+	if !known || e.Line < 0 {
 		return false
 	}
-	f := exprForms[e.Kind]
 	funcs := 0
 	if f.fn {
 		funcs = 1
@@ -279,7 +300,8 @@ func statNamed(s *api.Stat) bool {
 			return false
 		}
 	}
-	return !statForms[s.Kind].label || lexer.Name(s.Label)
+	f, _ := statFormOf(s.Kind)
+	return !f.label || lexer.Name(s.Label)
 }
 
 // exprNamed reports whether the names of a well-formed expression are names.
